@@ -25,6 +25,22 @@ def nodes():
             yield f"{path.name}:{getattr(node, 'lineno', 0)}", node
 
 
+def imports_of(path):
+    """The package's modules and names that a file imports."""
+    for node in ast.walk(ast.parse(path.read_text("utf-8"))):
+        if isinstance(node, ast.ImportFrom):
+            yield node.module.removeprefix("flashkeep."), [name.name for name in node.names]
+
+
+def bound_in(function):
+    """The names of a function's parameters and variables."""
+    for node in ast.walk(function):
+        if isinstance(node, ast.arg):
+            yield node.arg
+        elif isinstance(node, ast.Name) and isinstance(node.ctx, ast.Store):
+            yield node.id
+
+
 class LanguageTest(unittest.TestCase):
     def test_the_folder_holds_modules_alone(self):
         names = [path.name for path in PACKAGE.iterdir() if path.name != "__pycache__"]
@@ -52,6 +68,40 @@ class LanguageTest(unittest.TestCase):
                 self.assertEqual(node.level, 0, where)
                 self.assertRegex(node.module, r"^flashkeep\.[a-z]+$", where)
                 self.assertNotIn("*", [name.name for name in node.names], where)
+
+    def test_imports_name_the_file_that_defines_the_name(self):
+        for path in FILES:
+            for module, names in imports_of(path):
+                body = ast.parse((PACKAGE / f"{module}.py").read_text("utf-8")).body
+                defined = [node.name for node in body if isinstance(node, (ast.FunctionDef, ast.ClassDef))]
+                defined += [node.targets[0].id for node in body if isinstance(node, ast.Assign)]
+                self.assertLessEqual(set(names), set(defined), path.name)
+
+    def test_no_files_import_from_each_other(self):
+        left = {path.stem: {module for module, _ in imports_of(path)} for path in FILES}
+        while left:
+            leaves = {stem for stem in left if not left[stem] & set(left)}
+            self.assertTrue(leaves, sorted(left))
+            left = {stem: left[stem] for stem in left if stem not in leaves}
+
+    def test_no_variable_has_the_name_of_a_class_or_an_import(self):
+        for path in FILES:
+            tree = ast.parse(path.read_text("utf-8"))
+            barred = {node.name for node in ast.walk(tree) if isinstance(node, ast.ClassDef)}
+            barred |= {name for _, names in imports_of(path) for name in names}
+            for node in ast.walk(tree):
+                if isinstance(node, ast.FunctionDef):
+                    self.assertFalse(barred & set(bound_in(node)), f"{path.name}:{node.lineno}")
+
+    def test_no_name_is_a_method_and_an_attribute(self):
+        methods = set()
+        attributes = set()
+        for _, node in nodes():
+            if isinstance(node, ast.ClassDef):
+                methods |= {row.name for row in node.body if isinstance(row, ast.FunctionDef)}
+            elif isinstance(node, ast.Attribute) and isinstance(node.ctx, ast.Store):
+                attributes.add(node.attr)
+        self.assertFalse(methods & attributes)
 
     def test_no_barred_statement_float_or_escape(self):
         for where, node in nodes():

@@ -5,7 +5,7 @@ import unittest
 
 from flashkeep.errors import NoNumber, NoWidth, NoWord
 from flashkeep.seals import opened, seal
-from helper import FAR_NUMBERS, OTHER_KINDS, assert_refused
+from helper import FAR_NUMBERS, OTHER_KINDS, assert_refused, scattered
 
 # Worked out by hand: the numbers 1, 2, 4 and 8 hold one of the bits 3, 5, 6 and 7 each, with the checks
 # (1 and 2), (1 and 4), (2 and 4), (1, 2 and 4); bit 0 is 1 where these are three bits together.
@@ -57,16 +57,6 @@ def due_of(word, width):
         if is_sealed(turned):
             return ("mended", number_held(turned, width), bit)
     return ("spoilt",)
-
-
-def scattered(many, below):
-    """Numbers of no likeness to each other, the same ones in every run."""
-    told = []
-    state = 12345
-    for _ in range(many):
-        state = (state * 6364136223846793005 + 1442695040888963407) % 2 ** 64
-        told.append((state ^ state >> 29) % below)
-    return told
 
 
 def numbers_of(width):
