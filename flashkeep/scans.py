@@ -112,6 +112,19 @@ def failed_with_newest(flash, living):
     return [block for block in range(flash.blocks()) if flash.is_bad(block) and living[block] > 0]
 
 
+def data_at(plan, flash, at):
+    """Tell what a place reads whose newest page stands there: its data, None of a trim or where there is none."""
+    if at is None:
+        return None
+    kind, place, number, group, data = flash.found(at[0], at[1], plan[3])[1]
+    return None if kind == "trim" else data
+
+
+def readings(plan, flash):
+    """Tell what each place reads, by no step."""
+    return tuple([data_at(plan, flash, at) for at in newest_of(plan, pages_read(plan, flash))])
+
+
 def scan(plan, flash):
     """Tell (newest, next, head): where each place's newest page stands, the next number, where is written next."""
     look_at_flash(plan, flash)

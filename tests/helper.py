@@ -2,7 +2,8 @@
 
 import copy
 
-from flashkeep.errors import Off
+from flashkeep.drives import Drive
+from flashkeep.errors import FlashError, NoRoom, Off, Over, Spoilt, Worn
 from flashkeep.flash import Flash
 from flashkeep.pages import fields_in, word_of
 
@@ -24,6 +25,8 @@ FAR_NUMBERS = [10 ** 29, 10 ** 30 - 1, -(10 ** 29), -(10 ** 30 - 1)]
 
 
 def as_it_is(thing):
+    if isinstance(thing, Drive):
+        return thing.plan(), state_of(thing.flash())
     return state_of(thing) if isinstance(thing, Flash) else copy.deepcopy(thing)
 
 
@@ -72,14 +75,15 @@ def first_blank(flash, block):
     return [flash.peek(block, page) for page in range(flash.pages())].index(("blank",))
 
 
-def built(plan, deeds):
-    """A flash of a plan by deeds, each of them one step.
+def built(plan, deeds, later=()):
+    """A flash of a plan by deeds, each of them one step, and with a weather whose steps are counted behind them.
 
     ("put", block, what, bits ..) puts a word, or fields, sealed or not as the plan is, with these bits turned, at the
     block's first blank page; ("tear", block) tears that page, ("tear all", block) the block, ("fail", block) lets it
     fail, ("wipe", block) wipes it.
     """
     weather = [(step, FAULTS_OF_DEEDS[deed[0]]) for step, deed in enumerate(deeds) if deed[0] in FAULTS_OF_DEEDS]
+    weather += [(len(deeds) + step, fault) for step, fault in later]
     flash = Flash(plan[0], plan[1], tuple(weather))
     for deed, block, *more in deeds:
         try:
@@ -207,3 +211,173 @@ def scattered_flashes(many):
         pick = choices(3000, seed)
         plan = scattered_plan(pick)
         yield plan, built(plan, scattered_deeds(pick, plan, pick([5, 20, 40, 80, 120])))
+
+
+def pages_on(plan, flash):
+    """The fields of each page that is read, and what else each page is that isn't blank."""
+    told = {}
+    for block in range(plan[0]):
+        for page in range(plan[1]):
+            cell = flash.peek(block, page)
+            if cell[0] == "word":
+                state, fields = fields_in(cell[1], plan[3])
+                told[block, page] = fields or state
+            elif cell[0] == "torn":
+                told[block, page] = "torn"
+    return told
+
+
+def put_down(row, order):
+    """What a plain list of places is behind an order."""
+    rows = {"write": [order[1:]], "trim": [(order[-1], None)], "group": order[-1]}.get(order[0], [])
+    changed = dict(rows)
+    return [changed.get(place, data) for place, data in enumerate(row)]
+
+
+WORDS_OF_REFUSALS = {Off: "off", NoRoom: "room", Over: "over", Worn: "worn", Spoilt: "spoilt"}
+
+
+def answered(drive, order):
+    """What point 70 has for an answer to an order."""
+    try:
+        return ("told", drive.do(order))
+    except FlashError as error:
+        return ("no", WORDS_OF_REFUSALS[type(error)])
+
+
+def driven(plan, orders, weather=()):
+    """A drive that was told some orders."""
+    drive = Drive(plan, weather)
+    for order in orders:
+        drive.do(order)
+    return drive
+
+
+def scattered_order(pick, plan, kinds=("read", "write", "write", "trim", "group", "group", "mend")):
+    kind = pick(kinds)
+    places = list(range(plan[2]))
+    rows = []
+    for _ in range(pick(range(1, 5)) if kind == "group" else 1):
+        if places:
+            place = pick(places)
+            places.remove(place)
+            rows.append((place, pick(range(64))))
+    return {
+        "read": ("read", rows[0][0]), "write": ("write", *rows[0]), "trim": ("trim", rows[0][0]),
+        "group": ("group", tuple(rows)), "mend": ("mend",),
+    }[kind]
+
+
+def scattered_weather(pick, most, faults, steps):
+    """A weather of at most so many faults, of some kinds, at steps below a bound."""
+    struck = sorted({pick(range(steps)) for _ in range(pick(range(most + 1)))})
+    kinds = {"cut": lambda: ("cut",), "bad": lambda: ("bad",), "bit": lambda: ("bit", pick(range(47)))}
+    return tuple((step, kinds[pick(faults)]()) for step in struck)
+
+
+class Refused(Exception):
+    """A plain drive refuses, with the word of point 70."""
+
+
+class PlainDrive:
+    """What points 51 to 55 tell of orders, done on a flash by their words alone, with a new look ahead of each step."""
+
+    def __init__(self, plan, flash):
+        self.plan = plan
+        self.flash = flash
+
+    def look(self):
+        return Look(self.plan, self.flash)
+
+    def answer(self, order):
+        try:
+            if not self.flash.is_on():
+                raise Off("off")
+            return ("told", getattr(self, order[0])(*order[1:]))
+        except Off:
+            return ("no", "off")
+        except Refused as refusal:
+            return ("no", str(refusal))
+
+    def taken(self, at):
+        self.flash.read(*at)
+        return fields_in(self.flash.peek(*at)[1], self.plan[3])
+
+    def put(self, kind, place, data, group=0):
+        while True:
+            look = self.look()
+            block = look.to_open()
+            if look.head is None and block is None or look.next > 16383:
+                raise Refused("worn")
+            at = look.head or (block, 0)
+            if self.flash.write(*at, word_of((kind, place, look.next, group, data), self.plan[3])):
+                return
+
+    def copy(self, place, at):
+        state, fields = self.taken(at)
+        if fields:
+            self.put("trim" if fields[0] == "trim" else "write", place, fields[4])
+        return state != "spoilt"
+
+    def make_room(self, many):
+        if self.look().next > 16000:
+            raise Refused("over")
+        if not self.look().room(many):
+            raise Refused("room")
+        while self.look().failed() or self.look().free() < many + self.plan[1]:
+            look = self.look()
+            block = look.to_collect()
+            if block is None or look.living()[block] > look.free() or not look.room(many):
+                raise Refused("worn")
+            for page in range(self.plan[1]):
+                places = [place for place, at in enumerate(self.look().newest) if at == (block, page)]
+                for place in places:
+                    self.copy(place, (block, page))
+            if block in self.look().good:
+                self.flash.wipe(block)
+
+    def read(self, place):
+        at = self.look().newest[place]
+        if at is None or self.look().read[at][0] == "trim":
+            return None
+        state, fields = self.taken(at)
+        if state == "spoilt":
+            raise Refused("spoilt")
+        return fields[4]
+
+    def write(self, place, data):
+        self.make_room(1)
+        self.put("write", place, data)
+
+    def trim(self, place):
+        at = self.look().newest[place]
+        if at is not None and self.look().read[at][0] != "trim":
+            self.make_room(1)
+            self.put("trim", place, 0)
+
+    def group(self, rows):
+        self.make_room(len(rows) + self.plan[4])
+        group = self.look().next
+        for place, data in rows:
+            self.put("member" if self.plan[4] else "write", place, data, group if self.plan[4] else 0)
+        if self.plan[4]:
+            self.put("commit", 0, 0, group)
+
+    def mend(self):
+        moved = []
+        for place in range(self.plan[2]):
+            at = self.look().newest[place]
+            if at and self.taken(at)[0] == "mended":
+                try:
+                    self.make_room(1)
+                    at = self.look().newest[place]
+                    if at and self.copy(place, at):
+                        moved.append(place)
+                except Refused:
+                    return tuple(moved)
+        return tuple(moved)
+
+    def reads(self):
+        look = self.look()
+        fields = [at and look.read[at] for at in look.newest]
+        return tuple(row[4] if row and row[0] != "trim" else None for row in fields)
