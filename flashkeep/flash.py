@@ -209,3 +209,9 @@ class Flash:
         other.power = self.power
         other.step_count = self.step_count
         return other
+
+    def with_cut(self, step):
+        """Tell a twin in whose weather power goes at a step, in the place of what else is there."""
+        other = self.twin()
+        other.faults = {**self.faults, step: ("cut",)}
+        return other

@@ -104,13 +104,13 @@ class CutTest(FaultTest):
 class FailedWriteTest(FaultTest):
     def test_a_page_is_written_anew_behind_a_failed_block(self):
         drive = driven((5, 4, 3, True, True), [("write", 0, 5), ("write", 1, 7)], ((1, BAD),))
-        self.assertEqual(pages_on(drive.plan(), drive.flash()), {(0, 0): ("write", 0, 1, 0, 5), (1, 0): ("write", 1, 2, 0, 7)})
+        pages = {(0, 0): ("write", 0, 1, 0, 5), (1, 0): ("write", 1, 2, 0, 7)}
+        self.assertEqual(pages_on(drive.plan(), drive.flash()), pages)
         self.assertEqual((drive.steps(), drive.flash().is_bad(0), drive.reads()), (3, True, (5, 7, None)))
         # Ahead of the next page the failed block is collected, and not wiped.
         drive.do(("write", 2, 8))
         self.assertEqual(pages_on(drive.plan(), drive.flash()), {
-            (0, 0): ("write", 0, 1, 0, 5), (1, 0): ("write", 1, 2, 0, 7), (1, 1): ("write", 0, 3, 0, 5),
-            (1, 2): ("write", 2, 4, 0, 8),
+            **pages, (1, 1): ("write", 0, 3, 0, 5), (1, 2): ("write", 2, 4, 0, 8),
         })
         self.assertEqual((drive.steps(), drive.flash().wipes(0)), (6, 0))
         # Then it has no newest page, and is left alone.
@@ -379,25 +379,26 @@ class MendTest(FaultTest):
 
     def test_it_ends_where_there_is_no_room(self):
         flash = built(PLAN, [
-            ("put", 0, ("write", 0, 1, 0, 5)), ("put", 0, ("write", 1, 2, 0, 6), 3), ("put", 0, ("write", 2, 3, 0, 7), 3),
-            ("fail", 1), ("fail", 2), ("fail", 3),
+            ("put", 0, ("write", 0, 1, 0, 5)), ("put", 0, ("write", 1, 2, 0, 6), 3),
+            ("put", 0, ("write", 2, 3, 0, 7), 3), ("fail", 1), ("fail", 2), ("fail", 3),
         ])
         drive = Drive(PLAN, flash=flash)
         self.assertEqual((drive.do(("mend",)), drive.steps(), drive.reads()), ((), 8, (5, 6, 7)))
 
     def test_it_tells_those_moved_ahead_of_where_there_is_no_room(self):
         flash = built(PLAN, [
-            ("put", 0, ("write", 0, 1, 0, 5), 1), ("put", 0, ("write", 1, 2, 0, 6)), ("put", 0, ("write", 2, 3, 0, 7), 3),
-            ("fail", 2), ("fail", 3),
+            ("put", 0, ("write", 0, 1, 0, 5), 1), ("put", 0, ("write", 1, 2, 0, 6)),
+            ("put", 0, ("write", 2, 3, 0, 7), 3), ("fail", 2), ("fail", 3),
         ], ((2, BAD),))
-        # Five pages are free, as many as are due for place 0. As it is copied, block 0 fails: it would take two of three.
+        # Five pages are free, as many as are due for place 0. As it is copied block 0 fails, and wants two of three.
         drive = Drive(PLAN, flash=flash)
         self.assertEqual((drive.do(("mend",)), drive.steps(), drive.reads()), ((0,), 5 + 4 + 1 + 1, (5, 6, 7)))
 
     def test_it_ends_where_it_fails(self):
         # As place 1 is copied all good blocks with a blank page fail; place 2 isn't looked at any more.
         deeds = [
-            ("put", 0, ("write", 0, 1, 0, 5), 1), ("put", 0, ("write", 1, 2, 0, 6), 2), ("put", 0, ("write", 2, 3, 0, 7), 3),
+            ("put", 0, ("write", 0, 1, 0, 5), 1), ("put", 0, ("write", 1, 2, 0, 6), 2),
+            ("put", 0, ("write", 2, 3, 0, 7), 3),
         ]
         drive = Drive(PLAN, flash=built(PLAN, deeds, tuple((step, BAD) for step in range(5, 9))))
         self.assertEqual((drive.do(("mend",)), drive.steps(), drive.reads()), ((0,), 3 + 8, (5, 6, 7)))
@@ -412,7 +413,10 @@ class MendTest(FaultTest):
             self.assertEqual(drive.do(("mend",)), tuple(range((step - 3) // 3, 3)))
 
     def test_it_ends_at_over(self):
-        deeds = [("put", 0, ("write", 0, 5, 0, 5)), ("put", 0, ("write", 1, 2, 0, 6), 3), ("put", 0, ("write", 2, 16000, 0, 7))]
+        deeds = [
+            ("put", 0, ("write", 0, 5, 0, 5)), ("put", 0, ("write", 1, 2, 0, 6), 3),
+            ("put", 0, ("write", 2, 16000, 0, 7)),
+        ]
         drive = Drive(PLAN, flash=built(PLAN, deeds))
         self.assertEqual((drive.do(("mend",)), drive.steps()), ((), 5))
         # Where all newest pages are good it isn't looked at.

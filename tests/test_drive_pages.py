@@ -82,7 +82,8 @@ class PagesTest(unittest.TestCase):
         drive = driven(plan, [*orders, ("group", ((2, 1), (0, 2), (1, 3)))])
         pages = {
             (0, 0): ("write", 0, 1, 0, 5), (0, 1): ("write", 1, 2, 0, 7), (0, 2): ("write", 2, 3, 0, 8),
-            (0, 3): ("write", 0, 4, 0, 10), **{at: (*page[:4], page[4] + 1) for at, page in of_place_0(range(5, 10)).items()},
+            (0, 3): ("write", 0, 4, 0, 10),
+            **{at: (*page[:4], page[4] + 1) for at, page in of_place_0(range(5, 10)).items()},
             (2, 1): ("write", 2, 10, 0, 1), (2, 2): ("write", 0, 11, 0, 2), (2, 3): ("write", 1, 12, 0, 3),
         }
         self.assert_drive(drive, pages, [0] * 4, 12)
@@ -103,10 +104,12 @@ class PagesTest(unittest.TestCase):
             seen.append((scan(drive.plan(), flash)[0][0][0], wipes_of(flash)))
         # A block is opened only for the newest page of the one place; the other blocks are wiped as they are full.
         self.assertEqual([block for block, wipes in seen[::4]], [0, 1, 2, 3, 0, 1, 2, 3, 0, 1])
-        self.assertEqual([wipes for block, wipes in seen[11:24:4]], [[0, 0, 0, 0], [1, 0, 0, 0], [1, 1, 0, 0], [1, 1, 1, 0]])
+        wipes = [wipes for block, wipes in seen[11:24:4]]
+        self.assertEqual(wipes, [[0, 0, 0, 0], [1, 0, 0, 0], [1, 1, 0, 0], [1, 1, 1, 0]])
 
     def test_numbers_go_on_behind_pages_that_do_not_count(self):
-        drive = Drive(PLAN, flash=built(PLAN, [("put", 1, ("member", 2, 900, 900, 5)), ("put", 2, ("write", 9, 40, 0, 0))]))
+        deeds = [("put", 1, ("member", 2, 900, 900, 5)), ("put", 2, ("write", 9, 40, 0, 0))]
+        drive = Drive(PLAN, flash=built(PLAN, deeds))
         drive.do(("group", ((1, 3),)))
         self.assertEqual(pages_on(PLAN, drive.flash()), {
             (1, 0): ("member", 2, 900, 900, 5), (2, 0): ("write", 9, 40, 0, 0),

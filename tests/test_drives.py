@@ -114,10 +114,10 @@ def told_of(row, order):
 class ToldTest(unittest.TestCase):
     def test_twenty_orders_beside_a_plain_list(self):
         orders = [
-            ("read", 0), ("trim", 0), ("write", 0, 0), ("read", 0), ("group", ((2, 5), (1, 63))), ("read", 1), ("read", 2),
-            ("mend",), ("trim", 2), ("read", 2), ("trim", 2), ("write", 2, 1), ("group", ((0, 7),)), ("read", 0),
-            ("group", ((1, 8), (0, 9), (2, 10))), ("write", 1, 11), ("trim", 0), ("read", 0), ("write", 0, 12), ("read", 1),
-            ("mend",), ("group", ((2, 13), (1, 14))), ("read", 2),
+            ("read", 0), ("trim", 0), ("write", 0, 0), ("read", 0), ("group", ((2, 5), (1, 63))), ("read", 1),
+            ("read", 2), ("mend",), ("trim", 2), ("read", 2), ("trim", 2), ("write", 2, 1), ("group", ((0, 7),)),
+            ("read", 0), ("group", ((1, 8), (0, 9), (2, 10))), ("write", 1, 11), ("trim", 0), ("read", 0),
+            ("write", 0, 12), ("read", 1), ("mend",), ("group", ((2, 13), (1, 14))), ("read", 2),
         ]
         for way in FOUR_WAYS:
             drive = Drive((4, 4, 3, *way))
@@ -147,8 +147,8 @@ class ToldTest(unittest.TestCase):
             group = 3 if commits else 2
             orders = [
                 (("read", 1), 0), (("trim", 1), 0), (("mend",), 0), (("write", 1, 5), 1), (("read", 1), 1),
-                (("trim", 1), 1), (("read", 1), 0), (("trim", 1), 0), (("mend",), 1), (("group", ((1, 2), (2, 3))), group),
-                (("read", 2), 1), (("mend",), 2),
+                (("trim", 1), 1), (("read", 1), 0), (("trim", 1), 0), (("mend",), 1),
+                (("group", ((1, 2), (2, 3))), group), (("read", 2), 1), (("mend",), 2),
             ]
             for order, many in orders:
                 before = drive.steps()
@@ -212,7 +212,8 @@ class OrderRefusedTest(unittest.TestCase):
         drive = driven(PLAN, [("write", 0, 1)])
         drive.off()
         before = state_of(drive.flash())
-        for order in [("read", 0), ("read", 1), ("write", 0, 2), ("trim", 0), ("trim", 1), ("group", ((0, 1),)), ("mend",)]:
+        orders = [("read", 0), ("read", 1), ("write", 0, 2), ("trim", 0), ("trim", 1), ("group", ((0, 1),)), ("mend",)]
+        for order in orders:
             assert_refused_order(self, Off, drive, order)
         self.assertEqual(state_of(drive.flash()), before)
 

@@ -477,6 +477,20 @@ class TwinTest(unittest.TestCase):
         one.write(0, 0, 1)
         self.assertEqual([one.peek(0, 0), other.peek(0, 0), flash.peek(0, 0)], [("word", 1), BLANK, BLANK])
 
+    def test_with_a_cut_in_the_place_of_what_is_there(self):
+        flash = self.flash()
+        before = state_of(flash)
+        # Step 4 turns a bit of the page that is read; with a cut at it power goes instead.
+        one, other = flash.with_cut(4), flash.with_cut(6)
+        self.assertEqual([state_of(one), state_of(other)], [before] * 2)
+        assert_refused(self, Off, one.read, 0, 0)
+        one.on()
+        self.assertEqual(one.peek(0, 0), ("word", WORD))
+        assert_refused(self, Off, one.wipe, 0)
+        self.assertEqual(other.read(0, 0), WORD ^ 4)
+        self.assertEqual(state_of(flash), before)
+        self.assertEqual(flash.read(0, 0), WORD ^ 4)
+
 
 if __name__ == "__main__":
     unittest.main()

@@ -8,8 +8,8 @@ from flashkeep.errors import NoFlash, NoPaper, NoPlace, NoPlan
 from flashkeep.flash import Flash
 from flashkeep.papers import is_paper, paper_of, read_by
 from helper import (
-    FAR_NUMBERS, OTHER_KINDS, Look, answered, assert_refused, built, choices, driven, scattered_flashes, scattered_order,
-    scattered_weather, state_of,
+    FAR_NUMBERS, OTHER_KINDS, Look, answered, assert_refused, built, choices, driven, scattered_flashes,
+    scattered_order, scattered_weather, state_of,
 )
 
 PLAN = (4, 4, 3, True, True)
@@ -96,10 +96,11 @@ class PaperTest(unittest.TestCase):
         self.assertIs(is_paper(PLAN, flash, 0, paper), True)
         wrong = [
             ("pages", 1, 1, (1, 2)), ("none", 1, 1, (1, 2)), ("page", 0, 1, (1, 2)), ("page", 1, 0, (1, 2)),
-            ("page", 1, 1, None), ("page", 1, 1, (1, 1)), ("page", 1, 1, (2, 2)), ("page", 1, 1, [1, 2]), ["page", 1, 1, (1, 2)],
-            ("page", 1, 1), ("page", 1, 1, (1, 2), None), ("page", 1, 1, (1,)), ("page", 1, 1, (1, 2, 3)), ("page", 1, 1, 1),
-            ("page", True, 1, (1, 2)), ("page", 1, True, (1, 2)), ("page", 1, 1, (True, 2)), ("page", 1, 1.0, (1, 2)), NONE,
-            ("page", 1, 1, (1, 2.0)), ("page", 1, 1, ((1, 2),)), ("page", (1, 1), (1, 2)), (1, 1, (1, 2)), ("page", 1, 1, ()),
+            ("page", 1, 1, None), ("page", 1, 1, (1, 1)), ("page", 1, 1, (2, 2)), ("page", 1, 1, [1, 2]),
+            ("page", 1, 1), ("page", 1, 1, (1, 2), None), ("page", 1, 1, (1,)), ("page", 1, 1, (1, 2, 3)),
+            ("page", True, 1, (1, 2)), ("page", 1, True, (1, 2)), ("page", 1, 1, (True, 2)), ("page", 1, 1.0, (1, 2)),
+            ("page", 1, 1, (1, 2.0)), ("page", 1, 1, ((1, 2),)), ("page", (1, 1), (1, 2)), (1, 1, (1, 2)),
+            ("page", 1, 1, ()), ("page", 1, 1, 1), ["page", 1, 1, (1, 2)], NONE,
         ]
         for thing in wrong:
             self.assert_none(flash, 0, thing)
@@ -120,7 +121,8 @@ class PaperTest(unittest.TestCase):
         things = [*OTHER_KINDS, *FAR_NUMBERS, 0, "page", "none", ["none"], ("none", None), (("none",),), ("None",)]
         things += [(part, 0, 0, None) for part in OTHER_KINDS] + [("page", part, 0, None) for part in OTHER_KINDS]
         things += [("page", 0, part, None) for part in OTHER_KINDS] + [("page", 0, 0, part) for part in parts]
-        things += [("page", 0, 1, (part, 2)) for part in OTHER_KINDS] + [("page", 0, 1, (0, part)) for part in OTHER_KINDS]
+        things += [("page", 0, 1, (part, 2)) for part in OTHER_KINDS]
+        things += [("page", 0, 1, (0, part)) for part in OTHER_KINDS]
         things += [("page", number, number, (number, number)) for number in FAR_NUMBERS]
         for thing in things:
             before = copy.deepcopy(thing)

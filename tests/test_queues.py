@@ -52,7 +52,8 @@ class PlainQueue:
 class AskTest(unittest.TestCase):
     def test_numbers_from_nought(self):
         queue = Queue(Drive(PLAN))
-        orders = [("read", 0), ("write", 2, 63), ("trim", 1), ("group", ((0, 1), (1, 2), (2, 3))), FENCE, FENCE, ("read", 0)]
+        rows = ((0, 1), (1, 2), (2, 3))
+        orders = [("read", 0), ("write", 2, 63), ("trim", 1), ("group", rows), FENCE, FENCE, ("read", 0)]
         self.assertEqual([queue.ask(order) for order in orders], list(range(7)))
         self.assertEqual(queue.waiting(), list(range(7)))
 
@@ -278,7 +279,8 @@ class DriveTest(unittest.TestCase):
             orders = [scattered_order(pick, drive.plan(), ["read", "read", "write", "trim"]) for _ in range(15)]
             queue = queue_of(orders, drive)
             gone_through(queue)
-            self.assertEqual([queue.answer(number) for number in range(15)], [answered(other, order) for order in orders])
+            due = [answered(other, order) for order in orders]
+            self.assertEqual([queue.answer(number) for number in range(15)], due)
             self.assertEqual(drive.reads(), other.reads())
 
     def test_methods_stand_in_the_class(self):

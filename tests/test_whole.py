@@ -9,8 +9,8 @@ from flashkeep.wear import worn
 from helper import answered, choices, put_down, scattered_order, scattered_weather, state_of
 
 SHAPES = [
-    (3, 6, 1), (3, 7, 2), (3, 8, 3), (4, 3, 1), (4, 4, 3), (4, 4, 1), (5, 2, 1), (5, 3, 4), (6, 2, 3), (8, 2, 7), (6, 4, 11),
-    (4, 8, 11), (8, 8, 16),
+    (3, 6, 1), (3, 7, 2), (3, 8, 3), (4, 3, 1), (4, 4, 3), (4, 4, 1), (5, 2, 1), (5, 3, 4), (6, 2, 3), (8, 2, 7),
+    (6, 4, 11), (4, 8, 11), (8, 8, 16),
 ]
 FAULTS = [["cut"], ["cut"] * 12 + ["bad"], ["cut"] * 4 + ["bad"], ["bad"]]
 
